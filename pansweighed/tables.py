@@ -92,12 +92,9 @@ def scaled_inverse(table):
 def told_things(table):
     """Of each thing 1 if it can be told, else 0."""
     things = len(table)
-    told = []
-    for k, row in enumerate(cleared(table)):
-        # If the row has another thing too, both can change together and show the same.
-        alone = row[k] != 0 and things - row[:things].count(0) == 1
-        told.append(1 if alone else 0)
-    return told
+    # A thing can be told if its row has it alone. If another one is there too, both can change together and
+    # show the same; an empty row is that of a thing which may weigh anything, if others follow.
+    return [1 if row[:things].count(0) == things - 1 else 0 for row in cleared(table)]
 
 
 def scaled_weights(weighings, things):
