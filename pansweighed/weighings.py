@@ -1,40 +1,66 @@
 """The calls on a balance with two pans, and what is answered of them."""
 
+from pansweighed.tables import adjugate
 from pansweighed.tables import determinant
+from pansweighed.tables import diagonal_sum
 from pansweighed.tables import fraction
+from pansweighed.tables import greatest_whole
 from pansweighed.tables import pans_beyond
-from pansweighed.tables import scaled_inverse
+from pansweighed.tables import products_sum
+from pansweighed.tables import scaled_offs
 from pansweighed.tables import scaled_weights
+from pansweighed.tables import shown_by
+from pansweighed.tables import surest_pans
 from pansweighed.tables import table_of
 from pansweighed.tables import told_things
 from pansweighed.tables import turned_pans
+from pansweighed.tables import without
 
 NOT_THERE = -2
+READ_SO = -17
 TOLD_WRONGLY = -22
 NO_ROOM = -28
 NOT_ALL_TOLD = -33
+NO_READING = -75
 
 MOST_THINGS = 5
 MOST_WEIGHINGS = 8
 MOST_READING = 10000
+MOST_CHANGES = 20
 
 
 class Balance:
-    """How many things there are, and the weighings: pairs of the pans' number and the reading."""
+    """How many things there are, and the weighings: pairs of the pans' number and the reading.
+
+    Also the weighings as they were ahead of each change that can be taken back, and as they were
+    behind each one that can be done again; the next to come back is the last of each list.
+    """
 
     def __init__(self):
-        self.things = 0
-        self.weighings = []
+        self.begin(0)
 
     def begin(self, things):
         """Begins anew with so many things."""
         self.things = things
         self.weighings = []
+        self.earlier = []
+        self.later = []
 
     def change(self, weighings):
-        """Puts other weighings in the place of those there are."""
-        # Each change comes through here with a list of its own, so that the one before can be kept whole.
+        """Puts other weighings, a list of its own, in the place of those there are."""
+        self.earlier = (self.earlier + [self.weighings])[-MOST_CHANGES:]
+        self.later = []
         self.weighings = weighings
+
+    def take_back(self):
+        """Takes the last change back."""
+        self.later.append(self.weighings)
+        self.weighings = self.earlier.pop()
+
+    def do_again(self):
+        """Does the last change that was taken back again."""
+        self.earlier.append(self.weighings)
+        self.weighings = self.later.pop()
 
     def change_one(self, r, pans, reading):
         """Puts another weighing in the place of weighing r."""
@@ -51,6 +77,10 @@ class Balance:
     def table(self):
         """The table of what each two things count."""
         return table_of(self.weighings, self.things)
+
+    def table_without(self, r):
+        """The table of all weighings but r."""
+        return table_of(without(self.weighings, r), self.things)
 
 
 def pans_wrong(balance, p):
@@ -86,7 +116,7 @@ def wt_drop(balance, r):
     """Takes weighing r away: how many there are."""
     if not balance.has_weighing(r):
         return [NOT_THERE]
-    balance.change(balance.weighings[:r] + balance.weighings[r + 1:])
+    balance.change(without(balance.weighings, r))
     return [len(balance.weighings)]
 
 
@@ -162,7 +192,7 @@ def wt_sure(balance, i):
     below = determinant(table)
     if below == 0:
         return [NOT_ALL_TOLD]
-    return [0] + fraction(scaled_inverse(table)[i][i], below)
+    return [0] + fraction(adjugate(table)[i][i], below)
 
 
 def wt_all(balance):
@@ -171,7 +201,116 @@ def wt_all(balance):
     below = determinant(table)
     if below == 0:
         return [NOT_ALL_TOLD]
-    return [0] + fraction(sum([row[i] for i, row in enumerate(scaled_inverse(table))]), below)
+    return [0] + fraction(diagonal_sum(adjugate(table)), below)
+
+
+def wt_both(balance, i, j):
+    """0, and how unsure the difference of things i and j is, a fraction."""
+    if not balance.has_thing(i) or not balance.has_thing(j):
+        return [NOT_THERE]
+    if i == j:
+        return [TOLD_WRONGLY]
+    table = balance.table()
+    below = determinant(table)
+    if below == 0:
+        return [NOT_ALL_TOLD]
+    scaled = adjugate(table)
+    return [0] + fraction(scaled[i][i] + scaled[j][j] - 2 * scaled[i][j], below)
+
+
+def wt_expected(balance, p):
+    """0, and what the weights show of these pans, a fraction."""
+    if pans_wrong(balance, p):
+        return [TOLD_WRONGLY]
+    below = determinant(balance.table())
+    if below == 0:
+        return [NOT_ALL_TOLD]
+    return [0] + fraction(shown_by(scaled_weights(balance.weighings, balance.things), p), below)
+
+
+def wt_off(balance, r):
+    """0, and weighing r's reading less what the weights show of its pans, a fraction."""
+    if not balance.has_weighing(r):
+        return [NOT_THERE]
+    below = determinant(balance.table())
+    if below == 0:
+        return [NOT_ALL_TOLD]
+    return [0] + fraction(scaled_offs(balance.weighings, balance.things)[r], below)
+
+
+def wt_rest(balance):
+    """0, and what all weighings are off by, squared, together, a fraction."""
+    below = determinant(balance.table())
+    if below == 0:
+        return [NOT_ALL_TOLD]
+    offs = scaled_offs(balance.weighings, balance.things)
+    return [0] + fraction(products_sum(offs, offs), below * below)
+
+
+def wt_next(balance):
+    """The pans of the weighing more by which the determinant would be greatest, and that determinant."""
+    return greatest_whole(balance.table())
+
+
+def wt_surest(balance):
+    """The pans of the weighing more by which all weights would be surest, and how unsure then, a fraction."""
+    best = surest_pans(balance.table())
+    if len(best) == 0:
+        return [NOT_ALL_TOLD]
+    return [best[0]] + fraction(best[1], best[2])
+
+
+def wt_spare(balance):
+    """How many weighings could be spared, and of each place for a weighing 1 if it could, else 0."""
+    wholes = [determinant(balance.table_without(r)) for r in range(len(balance.weighings))]
+    spared = [0 if whole == 0 else 1 for whole in wholes]
+    return [sum(spared)] + spared + [0] * (MOST_WEIGHINGS - len(spared))
+
+
+def wt_better(balance, r):
+    """The pans in the place of weighing r's by which the determinant would be greatest, and that determinant."""
+    if not balance.has_weighing(r):
+        return [NOT_THERE]
+    return greatest_whole(balance.table_without(r))
+
+
+def wt_mend(balance, r):
+    """Gives weighing r the reading that all others tell: 0, and that reading."""
+    if not balance.has_weighing(r):
+        return [NOT_THERE]
+    below = determinant(balance.table_without(r))
+    if below == 0:
+        return [NOT_ALL_TOLD]
+    before = balance.weighings[r]
+    above = shown_by(scaled_weights(without(balance.weighings, r), balance.things), before[0])
+    reading = above // below
+    if reading * below != above or reading_wrong(reading):
+        return [NO_READING]
+    if reading == before[1]:
+        return [READ_SO]
+    balance.change_one(r, before[0], reading)
+    return [0, reading]
+
+
+def wt_back(balance):
+    """Takes the last change back: how many can still be taken back."""
+    if len(balance.earlier) == 0:
+        return [NOT_THERE]
+    balance.take_back()
+    return [len(balance.earlier)]
+
+
+def wt_again(balance):
+    """Does the last change that was taken back again: how many can still be done again."""
+    if len(balance.later) == 0:
+        return [NOT_THERE]
+    balance.do_again()
+    return [len(balance.later)]
+
+
+def wt_state(balance):
+    """How many weighings, things, changes to take back, and changes to do again there are."""
+    return [len(balance.weighings), balance.things, len(balance.earlier), len(balance.later)]
 
 
 # Each call, at the place of its number, and how many numbers it is handed.
@@ -189,6 +328,18 @@ CALLS = (
     (wt_weight, 1),
     (wt_sure, 1),
     (wt_all, 0),
+    (wt_both, 2),
+    (wt_expected, 1),
+    (wt_off, 1),
+    (wt_rest, 0),
+    (wt_next, 0),
+    (wt_surest, 0),
+    (wt_spare, 0),
+    (wt_better, 1),
+    (wt_mend, 1),
+    (wt_back, 0),
+    (wt_again, 0),
+    (wt_state, 0),
 )
 
 

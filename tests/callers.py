@@ -4,7 +4,9 @@ from pansweighed.weighings import answers
 
 NAMES = (
     "wt_start", "wt_weigh", "wt_drop", "wt_read", "wt_told", "wt_turn", "wt_together",
-    "wt_crosses", "wt_can", "wt_whole", "wt_weight", "wt_sure", "wt_all",
+    "wt_crosses", "wt_can", "wt_whole", "wt_weight", "wt_sure", "wt_all", "wt_both", "wt_expected",
+    "wt_off", "wt_rest", "wt_next", "wt_surest", "wt_spare", "wt_better", "wt_mend", "wt_back", "wt_again",
+    "wt_state",
 )
 
 LEAST_Y = -2 ** 31
@@ -60,11 +62,43 @@ def weighed(things, *weighings):
     return calls
 
 
-def look(things, weighings):
-    """Calls that change nothing and show all there is, and one weighing too many."""
-    calls = [("wt_told", r) for r in range(weighings + 1)]
-    calls += [("wt_together", i, j) for i in range(things + 1) for j in range(things + 1)]
-    calls += [("wt_crosses",), ("wt_can",), ("wt_whole",), ("wt_all",)]
-    calls += [("wt_weight", i) for i in range(things + 1)]
-    calls += [("wt_sure", i) for i in range(things + 1)]
+def any_counts(source, things):
+    """What things count on pans chosen by a random source."""
+    while True:
+        counts = [source.choice((-1, 0, 1)) for thing in range(things)]
+        if any(counts):
+            return counts
+
+
+def any_weighings(source, things, many):
+    """Weighings chosen by a random source."""
+    return [(any_counts(source, things), source.randint(-10000, 10000)) for k in range(many)]
+
+
+def look_at_weighings(weighings):
+    """Calls that change nothing and show each weighing, and one too many."""
+    return [(name, r) for name in ("wt_told", "wt_off", "wt_better") for r in range(weighings + 1)]
+
+
+def look_at_things(things):
+    """Calls that change nothing and show what all weighings tell together, and one thing too many."""
+    calls = [("wt_together", i, j) for i in range(things + 1) for j in range(things + 1)]
+    calls += [("wt_both", i, j) for i in range(things + 1) for j in range(things + 1)]
+    calls += [(name, i) for name in ("wt_weight", "wt_sure") for i in range(things + 1)]
+    calls += [("wt_expected", p) for p in (0, 1, 3 ** things - 1, 3 ** things)]
+    calls += [(name,) for name in ("wt_crosses", "wt_can", "wt_whole", "wt_all", "wt_rest")]
+    calls += [(name,) for name in ("wt_next", "wt_surest", "wt_spare")]
     return calls
+
+
+def look(things, weighings):
+    """Calls that change nothing and show all there is, but for the changes."""
+    return look_at_weighings(weighings) + look_at_things(things)
+
+
+def look_through(things, weighings):
+    """Calls that show all there is, and all that can be taken back and done again."""
+    there = [("wt_state",)] + [("wt_told", r) for r in range(9)]
+    back = [("wt_back",)] + there
+    again = [("wt_again",)] + there
+    return look(things, weighings) + there + again * 21 + back * 21 + again * 21

@@ -2,18 +2,10 @@
 
 import unittest
 
-from tests.callers import GREATEST, GREATEST_Y, LEAST_Y, ask, last, look, pans, weighed
+from tests.callers import GREATEST, GREATEST_Y, LEAST_Y, ask, last, look, look_at_things, pans, weighed
+from tests.unchanged import Unchanged
 
 EIGHT = [((1, 0), 1), ((0, 1), 2), ((1, 1), 3), ((1, -1), 4), ((-1, 0), 5), ((0, -1), 6), ((-1, -1), 7), ((-1, 1), 8)]
-
-
-class Unchanged(unittest.TestCase):
-    def assert_refused(self, before, call, number, things, weighings):
-        """The call answers this number alone behind these calls, and all is as it was."""
-        seen = look(things, weighings)
-        with_call = ask(*before, call, *seen)
-        self.assertEqual(with_call[len(before)], [number])
-        self.assertEqual(with_call[len(before) + 1:], ask(*before, *seen)[len(before):])
 
 
 class Start(Unchanged):
@@ -191,7 +183,7 @@ class Turn(Unchanged):
 
     def test_turned_pans_tell_the_same(self):
         before = weighed(3, ((1, 1, 0), 5), ((0, 1, -1), -8), ((1, 0, 1), 3), ((1, 1, 1), 7))
-        seen = look(3, 0)[1:]
+        seen = look_at_things(3)
         for r in range(4):
             self.assertEqual(ask(*before, ("wt_turn", r), *seen)[6:], ask(*before, *seen)[5:])
 
